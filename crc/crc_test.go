@@ -452,10 +452,10 @@ func TestSpareRoomIsLeftAlone(t *testing.T) {
 	}
 }
 
-// The table is made by whichever call comes first, also where several come at once.
-func TestEachCallMayBeTheFirst(t *testing.T) {
+// calls are all of the package's, each with an answer that is known.
+func calls() map[string]func() bool {
 	f := []byte("123456789\x26\x39\xf4\xcb")
-	for what, call := range map[string]func() bool{
+	return map[string]func() bool{
 		"Step": func() bool { return Step(0xffffffff, 'a') == 0x174841bc },
 		"Sum":  func() bool { return Sum(f[:9]) == 0xcbf43926 },
 		"Seal": func() bool { b, e := Seal(f[:9]); return bytes.Equal(b, f) && e == api.OK },
@@ -464,8 +464,19 @@ func TestEachCallMayBeTheFirst(t *testing.T) {
 			b, e := Patch(f, 8, 'x')
 			return bytes.Equal(b, slowFrame([]byte("12345678x"))) && e == api.OK
 		},
-	} {
-		once, table = sync.Once{}, [256]uint32{}
+	}
+}
+
+// forget sets the table back to what it is at the start, now and behind the test.
+func forget(t *testing.T) {
+	clean := func() { once, table = sync.Once{}, [256]uint32{} }
+	clean()
+	t.Cleanup(clean)
+}
+
+func TestEachCallMayBeTheFirst(t *testing.T) {
+	for what, call := range calls() {
+		forget(t)
 		right := make([]bool, 8)
 		var all sync.WaitGroup
 		for i := range right {
@@ -476,6 +487,47 @@ func TestEachCallMayBeTheFirst(t *testing.T) {
 			if !ok {
 				t.Errorf("%s: wrong as the first call", what)
 			}
+		}
+	}
+}
+
+// The section 'Ways': the table of a sum is made once.
+func TestSumMakesTheTableOnce(t *testing.T) {
+	forget(t)
+	Sum()
+	for i, got := range table {
+		if want := slowStep(0, byte(i)); got != want {
+			t.Fatalf("%d: got %08x; want %08x", i, got, want)
+		}
+	}
+	table['1'^0xff]++
+	if Sum([]byte("123456789")) == 0xcbf43926 {
+		t.Error("Sum makes its table again, or does not take it")
+	}
+}
+
+func TestSumWithoutItsTableIsTheSame(t *testing.T) {
+	forget(t)
+	once.Do(func() {})
+	for s, want := range known() {
+		if got := Sum([]byte(s)); got != want {
+			t.Errorf("%q: got %08x; want %08x", s, got, want)
+		}
+	}
+}
+
+func TestOnlySumTakesTheTable(t *testing.T) {
+	forget(t)
+	once.Do(func() {})
+	for what, call := range calls() {
+		if what == "Sum" {
+			continue
+		}
+		for i := range table {
+			table[i] = 0x5a5a5a5a
+		}
+		if !call() {
+			t.Errorf("%s: hangs on the table", what)
 		}
 	}
 }
